@@ -1,0 +1,1 @@
+"""An office's papers, copied, kept and seen."""
