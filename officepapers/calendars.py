@@ -1,6 +1,6 @@
 """Calendars: which days are open."""
 
-from officepapers.checks import is_rising, is_whole, need_day, need_number
+from officepapers.checks import is_pair, is_rising, is_whole, need_day, need_number
 from officepapers.errors import BadCalendar
 
 # No span goes beyond these days: below and above them the pattern alone decides.
@@ -118,8 +118,7 @@ def _is_spans(thing):
 
 def _is_span(thing):
     return (
-        isinstance(thing, tuple)
-        and len(thing) == 2
+        is_pair(thing)
         and is_whole(thing[0], FIRST_NEAR, LAST_NEAR)
         and is_whole(thing[1], thing[0], LAST_NEAR)
     )

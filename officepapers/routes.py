@@ -1,7 +1,7 @@
 """Routes: how days are moved through the calendars of a book."""
 
 from officepapers.calendars import FIRST_NEAR, LAST_NEAR, TURN, is_calendar, open_from, open_until
-from officepapers.checks import is_rising, need_day, need_number
+from officepapers.checks import is_pair, is_rising, need_day, need_number
 from officepapers.errors import BadBook, BadRoute, NoName, TooMany
 
 MOST_NAMES = 4
@@ -123,6 +123,11 @@ def reduce_letters(letters):
     return tuple(kept)
 
 
+def is_name(thing):
+    """Whether any object is a name."""
+    return isinstance(thing, str) and len(thing) == 1 and "a" <= thing <= "z"
+
+
 def need_book(thing):
     if not is_book(thing):
         raise BadBook("a book is a tuple of names with their calendars, ascending by names")
@@ -148,16 +153,12 @@ def _calendars_for(book, route):
     return calendars
 
 
-def _is_name(thing):
-    return isinstance(thing, str) and len(thing) == 1 and "a" <= thing <= "z"
-
-
 def _is_letter(thing):
-    return _is_name(thing) or (isinstance(thing, str) and thing == "+")
+    return is_name(thing) or (isinstance(thing, str) and thing == "+")
 
 
 def _is_named_calendar(thing):
-    return isinstance(thing, tuple) and len(thing) == 2 and _is_name(thing[0]) and is_calendar(thing[1])
+    return is_pair(thing) and is_name(thing[0]) and is_calendar(thing[1])
 
 
 def _move_often(calendars, route, day, times, bound):

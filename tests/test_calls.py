@@ -3,83 +3,52 @@
 import copy
 import unittest
 
+import code_samples
 import samples
-from samples import FAR
+from calls import BOOK, CALLS, JUDGES, right_values
+from code_samples import RIGHT, SCHEME
+from copy_samples import SCRIPT
 
-from officepapers import calendars, routes
-from officepapers.errors import BadBook, BadCalendar, BadDay, BadNumber, BadRoute, NoName
+from officepapers import copies, routes, schemes, slips
+from officepapers.errors import (
+    BadCode,
+    BadContents,
+    BadFolder,
+    BadGap,
+    BadNumber,
+    BadRegister,
+    BadRoute,
+    BadScript,
+    BadSource,
+    NoName,
+    NotRight,
+)
 
-CALENDAR = ("oo-", ((-3, 4), (-2, 9)), ((2, 30),))
-BOOK = (("a", CALENDAR), ("b", ("-o", (), ())))
-TOP_NUMBER = 10 ** 15
-TOP_TIMES = 10 ** 12
-
-
-def of_calendar(name):
-    return (name, CALENDAR, samples.BAD_CALENDARS, BadCalendar)
-
-
-def of_day(name, day):
-    return (name, day, samples.BAD_DAYS, BadDay)
-
-
-def of_book():
-    return ("book", BOOK, samples.BAD_BOOKS, BadBook)
-
-
-def of_route():
-    return ("route", ("a", "+", "b"), samples.BAD_ROUTES, BadRoute)
-
-
-def of_number(name, most):
-    return (name, 3, samples.bad_numbers(most), BadNumber)
-
-
-# Each function with its parameters: the name, a right value, wrong ones, and their error.
-CALLS = [
-    (calendars.is_open, [of_calendar("calendar"), of_day("day", 5)]),
-    (calendars.next_open, [of_calendar("calendar"), of_day("day", 5)]),
-    (calendars.last_open, [of_calendar("calendar"), of_day("day", 5)]),
-    (calendars.nth_open, [of_calendar("calendar"), of_day("day", 5), of_number("number", TOP_NUMBER)]),
-    (calendars.count_open, [of_calendar("calendar"), of_day("first", 5), of_day("last", 25)]),
-    (calendars.unlike_day, [of_calendar("calendar"), of_calendar("other")]),
-    (routes.moved, [of_book(), of_route(), of_day("day", 5)]),
-    (routes.stops, [of_book(), of_route(), of_day("day", 5)]),
-    (routes.latest_start, [of_book(), of_route(), of_day("day", 5)]),
-    (routes.start_days, [of_book(), of_route(), of_day("day", 5)]),
-    (routes.repeated, [of_book(), of_route(), of_day("day", 5), of_number("times", TOP_TIMES)]),
-    (routes.times_to, [of_book(), of_route(), of_day("day", 5), of_day("goal", 70)]),
-    (routes.reduced, [of_route()]),
-]
-WITH_BOOK = [(function, told) for function, told in CALLS if told[0][0] == "book"]
-
-
-def right_values(told):
-    return [right for _, right, _, _ in told]
+WITH_BOOK = [(function, told) for function, told in CALLS if told[0].name == "book"]
 
 
 class Calls(unittest.TestCase):
     def assert_error(self, error, function, values):
-        with self.assertRaises(error) as caught:
+        with self.assertRaises(error, msg=(function, values)) as caught:
             function(*values)
         self.assertIs(type(caught.exception), error)
         return caught.exception
 
     def test_each_argument_wrong_alone(self):
         for function, told in CALLS:
-            for at, (_, _, wrong, error) in enumerate(told):
-                for thing in wrong:
+            for at, argument in enumerate(told):
+                for thing in argument.wrong:
                     values = right_values(told)
                     values[at] = thing
-                    self.assert_error(error, function, values)
+                    self.assert_error(argument.error, function, values)
 
     def test_several_wrong_at_once(self):
         for function, told in CALLS:
-            for at, (_, _, wrong, error) in enumerate(told):
+            for at, argument in enumerate(told):
                 values = right_values(told)[:at]
-                for k in range(40):
-                    behind = [others[k % len(others)] for _, _, others, _ in told[at + 1:]]
-                    self.assert_error(error, function, values + [wrong[k % len(wrong)]] + behind)
+                for k in range(40 if argument.wrong else 0):
+                    behind = [some_wrong(other, k) for other in told[at + 1:]]
+                    self.assert_error(argument.error, function, values + [some_wrong(argument, k)] + behind)
 
     def test_no_name_comes_after_the_other_errors(self):
         for function, told in WITH_BOOK:
@@ -87,8 +56,8 @@ class Calls(unittest.TestCase):
             values[1] = ("b", "+", "z", "c", "a", "z")
             self.assertEqual(self.assert_error(NoName, function, values).name, "z")
             for at in [0, *range(2, len(told))]:
-                for thing in told[at][2]:
-                    self.assert_error(told[at][3], function, values[:at] + [thing] + values[at + 1:])
+                for thing in told[at].wrong:
+                    self.assert_error(told[at].error, function, values[:at] + [thing] + values[at + 1:])
 
     def test_no_name_of_an_empty_book(self):
         for function, told in WITH_BOOK:
@@ -102,16 +71,23 @@ class Calls(unittest.TestCase):
 
     def test_bounds_are_right_and_beyond_by_one_is_wrong(self):
         for function, told in CALLS:
-            for at, (name, _, _, error) in enumerate(told):
-                if error not in (BadDay, BadNumber):
+            for at, argument in enumerate(told):
+                if argument.bounds is None:
                     continue
-                low, high = -FAR, FAR
-                if error is BadNumber:
-                    low, high = 0, TOP_TIMES if name == "times" else TOP_NUMBER
+                low, high = argument.bounds
                 values = right_values(told)
                 for bound, beyond in [(low, low - 1), (high, high + 1)]:
                     function(*values[:at], bound, *values[at + 1:])
-                    self.assert_error(error, function, [*values[:at], beyond, *values[at + 1:]])
+                    self.assert_error(argument.error, function, [*values[:at], beyond, *values[at + 1:]])
+
+    def test_bounds_of_sizes_and_paths(self):
+        for function, told in CALLS:
+            if [argument.name for argument in told[:3]] == ["size", "script", "path"]:
+                behind = [("first", 0) if one.name == "source" else one.right for one in told[3:]]
+                behind = [0 if one == 2 else (0,) if one == (0, 2) else one for one in behind]
+                for size in (1, 6):
+                    for path in (0, 3):
+                        function(size, (), path, *behind)
 
     def test_joined(self):
         route = ("a", "+")
@@ -123,9 +99,40 @@ class Calls(unittest.TestCase):
                     self.assert_error(BadRoute, routes.joined, values)
         self.assert_error(BadRoute, routes.joined, [("+",) * 8, ("+",) * 8, None])
 
+    def test_not_right_comes_after_the_other_errors(self):
+        self.assert_error(NotRight, schemes.number_of, [SCHEME, (0, 0, 0)])
+        self.assert_error(NotRight, schemes.sure_digits, [SCHEME, (0, 0, 0)])
+        none = (3, 6, (2, 4, 2), 1)
+        self.assert_error(NotRight, schemes.number_of, [none, (0, 0, 0)])
+        self.assert_error(NotRight, schemes.sure_digits, [none, (None, None, None)])
+        for thing in code_samples.BAD_CODES:
+            self.assert_error(BadCode, schemes.number_of, [none, thing])
+        for thing in code_samples.BAD_GAPS:
+            # The base of this scheme is less by one.
+            self.assert_error(BadGap, schemes.sure_digits, [none, thing])
+            self.assert_error(BadGap, schemes.nth_fill, [none, thing, 0])
+        self.assert_error(BadNumber, schemes.nth_fill, [SCHEME, (0, 0, 0), 0])
+
+    def test_what_is_right_by_the_arguments_ahead_alone(self):
+        pair = (10, 11, (4, 3), 0)
+        self.assert_error(BadCode, schemes.is_right, [pair, (1, 2, 3)])
+        self.assert_error(BadCode, slips.fixes, [pair, (1, 10)])
+        self.assert_error(BadGap, schemes.count_fills, [pair, (1, None, 3)])
+        self.assert_error(BadRegister, slips.near_pairs, [pair, (RIGHT[0],)])
+        self.assert_error(BadRegister, slips.read_typed, [pair, ((1, 1),), (0, 0)])
+        self.assertEqual(slips.read_typed(pair, ((0, 0), (1, 6)), (0, 0)), [(0, 0)])
+        self.assert_error(BadScript, copies.lists_of, [2, SCRIPT, 0])
+        self.assert_error(BadScript, copies.lists_of, [1, (("over", 0, 1),), 0])
+        self.assert_error(BadContents, copies.papers_at, [2, (), 0, (0, 2)])
+        self.assert_error(BadFolder, copies.trail, [2, (), 0, 2, ("first", 0)])
+        self.assert_error(BadSource, copies.trail, [2, (), 0, 1, ("first", 2)])
+        self.assert_error(BadSource, copies.trail, [2, (), 0, 1, ("written", 0)])
+        self.assert_error(BadSource, copies.contents_for, [2, (("write", 0, 1),), 0, 1, ("written", 0)])
+        self.assert_error(BadContents, copies.trail_holds, [2, (), 0, 1, ("first", 1), (2,), ()])
+
     def test_arguments_by_their_names(self):
         for function, told in CALLS:
-            named = {name: right for name, right, _, _ in told}
+            named = {argument.name: argument.right for argument in told}
             wanted = function(*right_values(told))
             self.assertEqual(function(**named), wanted)
             self.assertEqual(function(**dict(reversed(list(named.items())))), wanted)
@@ -143,13 +150,26 @@ class Calls(unittest.TestCase):
         self.assertEqual(routes.joined(*values), routes.joined(*values))
         self.assertEqual(values, [("a", "a"), ("b", "+")])
 
+    def test_a_returned_list_may_be_changed(self):
+        for function, told in CALLS:
+            first = function(*right_values(told))
+            if isinstance(first, list):
+                kept = list(first)
+                first.append(None)
+                first[0] = None
+                self.assertEqual(function(*right_values(told)), kept)
+
     def test_any_object_is_judged_and_left_as_it_was(self):
-        for function in (calendars.is_calendar, routes.is_book, routes.is_route):
-            things = [["o", (), ()], {"a": 1}, [("a", ("o", (), ()))], ["a"], "a" * 10000, 10 ** 59, nested(99)]
+        for function, ahead in JUDGES:
+            things = [["o", (), ()], {"a": 1}, [BOOK], ["a"], "a" * 10000, 10 ** 59, nested(99), [], [1, 2, 3]]
             kept = copy.deepcopy(things)
             for thing in things + samples.OTHERS:
-                self.assertIs(function(thing), False)
+                self.assertIs(function(*ahead, thing), False, (function, thing))
             self.assertEqual(things, kept)
+
+
+def some_wrong(argument, k):
+    return argument.wrong[k % len(argument.wrong)] if argument.wrong else argument.right
 
 
 def nested(levels):
