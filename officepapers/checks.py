@@ -4,6 +4,7 @@ from officepapers.errors import BadContents, BadDay, BadFolder, BadNumber, BadPa
 
 FAR_DAY = 1_000_000_000_000_000
 MOST_FOLDERS = 6
+PATHS = (0, 1, 2, 3)
 LAST_PATH = 3
 
 

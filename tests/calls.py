@@ -4,28 +4,60 @@ from collections import namedtuple
 
 import code_samples
 import copy_samples
+import house_samples
+import plan_samples
+import report_samples
 import samples
 from code_samples import RIGHT, SCHEME
-from copy_samples import SCRIPT, SIZE
+from copy_samples import SCRIPT, SIZE, without_writes
+from house_samples import HOUSE, MODE, STATE
+from plan_samples import OFFICE, PLAN
+from report_samples import REPORTS
 
-from officepapers import calendars, copies, routes, schemes, slips, spelling
+from officepapers import (
+    calendars,
+    copies,
+    houses,
+    moments,
+    plans,
+    reasons,
+    reports,
+    rights,
+    routes,
+    schemes,
+    scripts,
+    slips,
+    spelling,
+)
 from officepapers.errors import (
     BadBook,
     BadCalendar,
     BadCode,
     BadContents,
     BadDay,
+    BadDeed,
     BadFolder,
     BadGap,
+    BadHouse,
     BadKind,
+    BadMode,
+    BadMoment,
     BadNumber,
+    BadOffice,
+    BadOrder,
     BadPath,
+    BadPerson,
+    BadPlan,
     BadRegister,
+    BadReports,
     BadRoute,
+    BadRow,
     BadScheme,
     BadScript,
     BadSize,
     BadSource,
+    BadState,
+    BadStep,
 )
 
 # The bounds are the least and the greatest integer that is right; None where there are no such bounds.
@@ -76,6 +108,45 @@ CONTENTS = Argument("contents", (0, 2), copy_samples.BAD_CONTENTS, BadContents, 
 
 WORK = [A_SIZE, A_SCRIPT, A_PATH]
 
+
+def of_copying(name):
+    """A script without a "write"."""
+    return Argument(name, without_writes(SCRIPT), copy_samples.BAD_SCRIPTS + [SCRIPT], BadScript, None)
+
+
+A_ROW = Argument("row", (1, 2, 0), copy_samples.BAD_ROWS, BadRow, None)
+TOLD = [
+    A_SIZE._replace(right=report_samples.SIZE),
+    A_FOLDER._replace(wrong=house_samples.BAD_FOLDERS, bounds=(0, report_samples.SIZE - 1)),
+    Argument("reports", REPORTS, report_samples.BAD_REPORTS, BadReports, None),
+]
+
+A_HOUSE = Argument("house", HOUSE, house_samples.BAD_HOUSES, BadHouse, None)
+A_MODE = Argument("mode", MODE, house_samples.BAD_MODES, BadMode, None)
+A_STATE = Argument("state", STATE, house_samples.BAD_STATES, BadState, None)
+A_PERSON = Argument("person", 1, house_samples.BAD_PERSONS, BadPerson, (0, 2))
+IN_HOUSE = Argument("folder", 2, house_samples.BAD_FOLDERS, BadFolder, (0, 3))
+HELD = [A_HOUSE, A_MODE, A_STATE]
+
+
+def of_deed(name, deed):
+    return Argument(name, deed, house_samples.BAD_RIGHT_DEEDS, BadDeed, None)
+
+
+def of_step(name, number):
+    return Argument(name, number, plan_samples.BAD_STEP_NUMBERS, BadStep, (0, len(PLAN) - 1))
+
+
+PLANNED = [
+    Argument("office", OFFICE, plan_samples.BAD_OFFICES, BadOffice, None),
+    Argument("plan", PLAN, plan_samples.BAD_PLANS, BadPlan, None),
+]
+A_MOMENT = Argument("moment", 4, plan_samples.BAD_MOMENTS, BadMoment, (0, len(PLAN)))
+# Each bound of the one day makes a wrong stretch with the other one.
+STRETCH = [of_day("first", 5)._replace(bounds=None), of_day("last", 25)._replace(bounds=None)]
+AN_ORDER = Argument("order", (1, 4, 0, 2, 3, 6, 5), plan_samples.BAD_ORDERS, BadOrder, None)
+TWO_STEPS = [of_step("number", 5)._replace(bounds=(1, 6)), of_step("other", 0)._replace(bounds=(0, 4))]
+
 CALLS = [
     (calendars.is_open, [A_CALENDAR, A_DAY]),
     (calendars.next_open, [A_CALENDAR, A_DAY]),
@@ -118,6 +189,43 @@ CALLS = [
     (copies.contents_for, [*WORK, A_FOLDER, A_SOURCE]),
     (copies.trail, [*WORK, A_FOLDER, A_SOURCE]),
     (copies.trail_holds, [*WORK, A_FOLDER, A_SOURCE, CONTENTS, of_any("thing", (5,))]),
+    (scripts.same_script, [A_SIZE, of_copying("script"), of_copying("other")._replace(right=(("over", 2, 0),))]),
+    (scripts.idle_deeds, [A_SIZE, A_SCRIPT]),
+    (scripts.least_script, [A_SIZE, A_SCRIPT]),
+    (scripts.lists_after, [A_SIZE, of_copying("script"), A_PATH, of_number("times", 10 ** 15)]),
+    (scripts.settling, [A_SIZE, of_copying("script")]),
+    (scripts.script_for, [A_SIZE, A_FOLDER, A_ROW]),
+    (reports.explained, TOLD),
+    (reports.against, TOLD),
+    (reports.against_holds, [*TOLD, of_any("thing", ("lost", 2, 3))]),
+    (houses.first_state, [A_HOUSE, A_MODE]),
+    (houses.sees, [*HELD, A_PERSON, IN_HOUSE]),
+    (houses.all_sights, HELD),
+    (rights.after_right, [*HELD, of_deed("deed", ("move", 2, 3))]),
+    (rights.commute, [A_HOUSE, A_MODE, of_deed("deed", ("move", 2, 3)), of_deed("other", ("bar", 2, ("p", 0)))]),
+    (rights.turning_deeds, [*HELD, A_PERSON, IN_HOUSE]),
+    (rights.idle_entries, HELD),
+    (rights.seen_modes, [A_HOUSE, A_STATE, A_PERSON, IN_HOUSE._replace(right=3)]),
+    (reasons.reason_for, [*HELD, A_PERSON, IN_HOUSE]),
+    (reasons.reason_holds, [*HELD, A_PERSON, IN_HOUSE, of_any("reason", ("nothing", (2,), (0, 1, 2)))]),
+    (plans.is_plan, [PLANNED[0], of_any("thing", PLAN)]),
+    (plans.day_of, [*PLANNED, of_step("number", 2), A_DAY]),
+    (plans.history, [*PLANNED, A_DAY]),
+    (plans.order_at, [*PLANNED, A_DAY]),
+    (plans.latest_done, [*PLANNED, A_DAY]),
+    (plans.stretches, [*PLANNED, *STRETCH]),
+    (plans.next_change, [*PLANNED, A_DAY]),
+    (plans.orders_ever, PLANNED),
+    (plans.days_with, [*PLANNED, AN_ORDER, *STRETCH]),
+    (plans.next_with, [*PLANNED, AN_ORDER, A_DAY]),
+    (plans.ahead_word, [*PLANNED, *TWO_STEPS]),
+    (plans.ahead_anyhow, [*PLANNED, *TWO_STEPS]),
+    (moments.state_at, [*PLANNED, A_DAY, A_MOMENT]),
+    (moments.lists_at, [*PLANNED, A_DAY, A_MOMENT, A_PATH]),
+    (moments.day_at, [*PLANNED, A_DAY, A_MOMENT]),
+    (moments.script_at, [*PLANNED, A_DAY, A_MOMENT]),
+    (moments.swap_steps, [*PLANNED, A_DAY]),
+    (moments.alike_days, [*PLANNED, A_DAY, of_day("other", 8)]),
 ]
 
 # Each function that accepts any object, with the arguments ahead of it, if there are any.
@@ -130,6 +238,12 @@ JUDGES = [
     (schemes.is_code, [SCHEME]),
     (copies.is_script, [SIZE]),
     (copies.trail_holds, [SIZE, SCRIPT, 2, 2, ("written", 1), ()]),
+    (reports.against_holds, [report_samples.SIZE, 2, REPORTS]),
+    (houses.is_house, []),
+    (houses.is_mode, []),
+    (reasons.reason_holds, [HOUSE, MODE, STATE, 1, 2]),
+    (plans.is_office, []),
+    (plans.is_plan, [OFFICE]),
 ]
 
 

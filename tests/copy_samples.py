@@ -71,6 +71,33 @@ BAD_CONTENTS = OTHERS + [
     (Odd(),),
 ]
 
+# What is none with the folder 2.
+BAD_ROWS = OTHERS + [
+    5,
+    2,
+    "2",
+    (),
+    [2],
+    [1, 2, 0],
+    (0,),
+    (0, 1),
+    (2, 2),
+    (0, 1, 2, 0),
+    (1, 2, 1),
+    (2, 3),
+    (2, -1),
+    (2, True),
+    (False, 2),
+    (2, None),
+    (2, "0"),
+    ("2",),
+    ((2,),),
+    (2, (0,)),
+    (Odd(),),
+    (2, Odd()),
+    {2: 2},
+]
+
 BAD_DEEDS = [
     None,
     "over",
@@ -160,10 +187,17 @@ def sources_of(size, script, path):
 
 
 def papers_along(size, script, contents):
-    """The papers, by folder and path, at first and after each deed; each path has the same first contents."""
+    """The papers, by folder and path, at first and after each deed; each path has the same first contents.
+
+    A deed in the place of which None stands is left out.
+    """
     papers = {(folder, path): ("first", folder) for folder in contents for path in range(4)}
     along = [dict(papers)]
-    for place, (word, first, second) in enumerate(script):
+    for place, deed in enumerate(script):
+        if deed is None:
+            along.append(dict(papers))
+            continue
+        word, first, second = deed
         if word in ("over", "under"):
             for path in range(4):
                 if (first, path) in papers and (word == "over" or (second, path) not in papers):
@@ -224,6 +258,10 @@ def is_trail_by_hand(size, script, path, folder, source, contents, places):
             if along[moment].get((at, path)) != source:
                 return False
     return here == folder
+
+
+def without_writes(script):
+    return tuple(deed for deed in script if deed[0] != "write")
 
 
 def some_script(chance, size, length, path=None):

@@ -8,18 +8,31 @@ import samples
 from calls import BOOK, CALLS, JUDGES, right_values
 from code_samples import RIGHT, SCHEME
 from copy_samples import SCRIPT
+from house_samples import HOUSE, MODE, STATE
+from plan_samples import OFFICE, PLAN
 
-from officepapers import copies, routes, schemes, slips
+from officepapers import copies, houses, moments, plans, reasons, reports, rights, routes, schemes, scripts, slips
 from officepapers.errors import (
     BadCode,
     BadContents,
+    BadDay,
+    BadDeed,
     BadFolder,
     BadGap,
+    BadMoment,
     BadNumber,
+    BadOrder,
+    BadPerson,
+    BadPlan,
     BadRegister,
+    BadReports,
     BadRoute,
+    BadRow,
     BadScript,
     BadSource,
+    BadState,
+    BadStep,
+    BadStretch,
     NoName,
     NotRight,
 )
@@ -129,6 +142,48 @@ class Calls(unittest.TestCase):
         self.assert_error(BadSource, copies.trail, [2, (), 0, 1, ("written", 0)])
         self.assert_error(BadSource, copies.contents_for, [2, (("write", 0, 1),), 0, 1, ("written", 0)])
         self.assert_error(BadContents, copies.trail_holds, [2, (), 0, 1, ("first", 1), (2,), ()])
+        self.assert_error(BadScript, scripts.same_script, [3, (), (("over", 0, 3),)])
+        self.assert_error(BadScript, scripts.idle_deeds, [2, SCRIPT])
+        self.assert_error(BadFolder, scripts.script_for, [2, 2, (2,)])
+        self.assert_error(BadRow, scripts.script_for, [2, 1, (0, 1, 2)])
+        self.assert_error(BadFolder, reports.explained, [2, 2, ()])
+        self.assert_error(BadReports, reports.explained, [2, 1, (((1, 2), 1),)])
+
+    def test_what_is_right_by_the_house_alone(self):
+        house = (1, (0,), (False, False), (), ())
+        state = ((0,), (False, False), (), (), ((),))
+        self.assertEqual(houses.all_sights(house, MODE, state), [])
+        self.assert_error(BadState, houses.all_sights, [house, MODE, STATE])
+        self.assert_error(BadState, rights.idle_entries, [HOUSE, MODE, state])
+        for call in (houses.sees, reasons.reason_for, rights.turning_deeds):
+            call(house, MODE, state, 0, 1)
+            self.assert_error(BadPerson, call, [house, MODE, state, 1, 2])
+            self.assert_error(BadFolder, call, [house, MODE, state, 0, 2])
+        self.assert_error(BadPerson, rights.seen_modes, [house, state, 1, 2])
+        self.assert_error(BadFolder, rights.seen_modes, [house, state, 0, 2])
+        for deed in [("move", 1, 2), ("login", 1), ("allow", 2, ("p", 0)), ("join", 0, ("p", 1))]:
+            self.assert_error(BadDeed, rights.after_right, [house, MODE, state, deed])
+            self.assert_error(BadDeed, rights.commute, [house, MODE, ("shut", 1), deed])
+
+    def test_what_is_right_by_the_office_and_the_plan_alone(self):
+        office = ((1, (0,), (False, False), (), ()), MODE, ())
+        plan = ((("over", 0, 1), ("+",)), (("login", 0), ()))
+        self.assertEqual(plans.order_at(office, plan, 0), (1, 0))
+        for wrong in [(("over", 0, 2), ()), (("login", 1), ()), (("look", 1, 0, 0), ()), (("shut", 0), ("a",))]:
+            self.assert_error(BadPlan, plans.history, [office, plan + (wrong,), 0])
+        self.assert_error(BadStep, plans.day_of, [office, plan, 2, 0])
+        self.assert_error(BadStep, plans.ahead_word, [office, plan, 1, 2])
+        self.assert_error(BadMoment, moments.state_at, [office, plan, 0, 3])
+        self.assert_error(BadOrder, plans.next_with, [office, plan, (1, 0, 2), 0])
+
+    def test_bad_stretch_comes_after_the_other_errors(self):
+        order = tuple(range(len(PLAN)))
+        self.assert_error(BadStretch, plans.days_with, [OFFICE, PLAN, order, 1, 0])
+        self.assert_error(BadStretch, plans.stretches, [OFFICE, PLAN, 1, 0])
+        self.assert_error(BadOrder, plans.days_with, [OFFICE, PLAN, order[1:], 1, 0])
+        self.assert_error(BadDay, plans.days_with, [OFFICE, PLAN, order, 10 ** 15 + 1, 0])
+        self.assert_error(BadDay, plans.days_with, [OFFICE, PLAN, order, 0, -10 ** 15 - 1])
+        self.assert_error(BadPlan, plans.stretches, [OFFICE, (PLAN,), 1, 0])
 
     def test_arguments_by_their_names(self):
         for function, told in CALLS:

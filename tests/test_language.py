@@ -70,9 +70,12 @@ class Language(unittest.TestCase):
     def test_module_level(self):
         for name, tree in trees():
             self.assertIsInstance(tree.body[0], ast.Expr, name)
+            above = set()
             for node in tree.body[1:]:
                 self.assertIsInstance(node, (ast.ImportFrom, ast.FunctionDef, ast.ClassDef, ast.Assign))
-                if isinstance(node, ast.Assign):
+                if isinstance(node, ast.FunctionDef):
+                    above.add(node.name)
+                if isinstance(node, ast.Assign) and not is_table_of(node.value, above):
                     ast.literal_eval(node.value)
 
     def test_nodes_and_names(self):
@@ -98,6 +101,25 @@ class Language(unittest.TestCase):
             for word in bound:
                 self.assertNotIn(word, BUILTINS, name)
 
+    def test_names_in_functions_are_no_imports_and_no_classes(self):
+        for name, tree in trees():
+            taken = {node.name for node in tree.body if isinstance(node, ast.ClassDef)}
+            for node in tree.body:
+                if isinstance(node, ast.ImportFrom):
+                    taken |= {alias.name for alias in node.names}
+            for node in ast.walk(tree):
+                if isinstance(node, ast.arg):
+                    self.assertNotIn(node.arg, taken, name)
+                if isinstance(node, ast.Name) and not isinstance(node.ctx, ast.Load):
+                    self.assertNotIn(node.id, taken, name)
+
+    def test_each_import_is_used(self):
+        for name, tree in trees():
+            read = {node.id for node in ast.walk(tree) if isinstance(node, ast.Name)}
+            for node in tree.body:
+                if isinstance(node, ast.ImportFrom):
+                    self.assertLessEqual({alias.name for alias in node.names}, read, name)
+
     def test_no_two_files_import_from_each_other(self):
         wanted = {}
         for name, tree in trees():
@@ -113,6 +135,15 @@ class Language(unittest.TestCase):
         for path in PACKAGE.glob("*.py"):
             for word in ("dataclass", "overload", "contextmanager", "_wall", "_WallAttr", "metaclass=", "(type)", "Meta"):
                 self.assertIsNone(re.search(re.escape(word), path.read_text("ascii")), (path.name, word))
+
+
+def is_table_of(node, functions):
+    """Whether the value is a dict of texts and of nothing but these functions."""
+    return (
+        isinstance(node, ast.Dict)
+        and all(isinstance(key, ast.Constant) for key in node.keys)
+        and all(isinstance(value, ast.Name) and value.id in functions for value in node.values)
+    )
 
 
 def defined(file):
