@@ -11,6 +11,12 @@ KINDS = ("allow", "bar")
 FIRSTS = ("bar", "near")
 MOVINGS = ("drops", "keeps")
 KNOWNS = ("login", "now")
+# Where its parts stand in a state.
+PARENTS = 0
+SHUT = 1
+ENTRIES = 2
+MEMBERS = 3
+LOGINS = 4
 
 
 def is_house(thing):
@@ -97,16 +103,15 @@ def groups_of(members, who, deep):
 def known_groups(mode, state, person):
     """The tuple, ascending, of the person's groups as they are counted by the mode."""
     if mode[2] == "login":
-        return state[4][person]
-    return groups_of(state[3], ("p", person), mode[3])
+        return state[LOGINS][person]
+    return groups_of(state[MEMBERS], ("p", person), mode[3])
 
 
 def way_of(state, folder):
     """The tuple of the folder and those above it up to folder 0 or to the first shut one."""
-    parents, shut = state[:2]
     way = [folder]
-    while way[-1] != 0 and not shut[way[-1]]:
-        way.append(parents[way[-1] - 1])
+    while way[-1] != 0 and not state[SHUT][way[-1]]:
+        way.append(state[PARENTS][way[-1] - 1])
     return tuple(way)
 
 
@@ -114,7 +119,7 @@ def deciding_entries(mode, state, person, folder):
     """The list of the entries that decide: the person sees the folder if there are some and no "bar" among them."""
     whos = [("p", person)] + [("g", group) for group in known_groups(mode, state, person)]
     way = way_of(state, folder)
-    counting = [entry for entry in state[2] if entry[0] in way and entry[1] in whos]
+    counting = [entry for entry in state[ENTRIES] if entry[0] in way and entry[1] in whos]
     if mode[0] == "bar":
         return counting
     nearest = [near for near in way if near in [entry[0] for entry in counting]][:1]

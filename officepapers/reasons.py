@@ -3,6 +3,8 @@
 from officepapers.checks import is_folder, is_whole, is_word
 from officepapers.houses import (
     GROUPS,
+    LOGINS,
+    MEMBERS,
     deciding_entries,
     is_who,
     known_groups,
@@ -30,8 +32,8 @@ def find_reason(mode, state, person, folder):
     if not entries:
         return "nothing", way_of(state, folder), known_groups(mode, state, person)
     bars = [entry for entry in entries if entry[2] == "bar"]
-    at, who, kind = (bars + entries)[0]
-    return "barred" if kind == "bar" else "sees", at, who, _chains(mode, state, person, who)[0]
+    at, who, _ = (bars + entries)[0]
+    return ("barred" if bars else "sees"), at, who, _chains(mode, state, person, who)[0]
 
 
 def is_reason(house, mode, state, person, folder, thing):
@@ -65,12 +67,13 @@ def _chains(mode, state, person, who):
     if word == "p":
         return [()] if number == person else []
     if mode[2] == "login":
-        return [(number,)] if number in state[4][person] else []
-    chains = [(group,) for group in GROUPS if (group, ("p", person)) in state[3]]
+        return [(number,)] if number in state[LOGINS][person] else []
+    members = state[MEMBERS]
+    chains = [(group,) for group in GROUPS if (group, ("p", person)) in members]
     longest = chains
     # No group belongs to itself: a chain has none of them twice.
     for _ in GROUPS[1:] if mode[3] else ():
         steps = [(chain, group) for chain in longest for group in GROUPS]
-        longest = [chain + (group,) for chain, group in steps if (group, ("g", chain[-1])) in state[3]]
+        longest = [chain + (group,) for chain, group in steps if (group, ("g", chain[-1])) in members]
         chains = chains + longest
     return [chain for chain in chains if chain[-1] == number]

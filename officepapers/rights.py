@@ -3,11 +3,16 @@
 from officepapers.checks import is_folder, is_word, need_folder
 from officepapers.errors import BadDeed
 from officepapers.houses import (
+    ENTRIES,
     FIRSTS,
     GROUPS,
     KNOWNS,
+    LOGINS,
+    MEMBERS,
     MOST_ENTRIES,
     MOVINGS,
+    PARENTS,
+    SHUT,
     groups_of,
     is_acyclic,
     is_group,
@@ -28,12 +33,6 @@ from officepapers.houses import (
 ENTRY_WORDS = ("allow", "bar", "clear")
 MEMBER_WORDS = ("join", "leave")
 SHUT_WORDS = ("open", "shut")
-# Where they stand in a state.
-PARENTS = 0
-SHUT = 1
-ENTRIES = 2
-MEMBERS = 3
-LOGINS = 4
 
 
 def after_right(house, mode, state, deed):
