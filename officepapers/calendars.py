@@ -6,6 +6,7 @@ from officepapers.errors import BadCalendar
 # No span goes beyond these days: below and above them the pattern alone decides.
 FIRST_NEAR = -30
 LAST_NEAR = 30
+MOST_SPANS = 2
 # The common period of all patterns: each length from 1 to 4 divides it.
 TURN = 12
 FAR_NUMBER = 1_000_000_000_000_000
@@ -16,7 +17,7 @@ def is_calendar(thing):
     return (
         isinstance(thing, tuple)
         and len(thing) == 3
-        and _is_pattern(thing[0])
+        and is_pattern(thing[0])
         and _is_spans(thing[1])
         and _is_spans(thing[2])
     )
@@ -98,12 +99,8 @@ def open_until(calendar, day):
     return day
 
 
-def need_calendar(thing):
-    if not is_calendar(thing):
-        raise BadCalendar("a calendar is a tuple of a pattern, closed spans and opened spans")
-
-
-def _is_pattern(thing):
+def is_pattern(thing):
+    """Whether any object is the pattern of a calendar."""
     return (
         isinstance(thing, str)
         and len(thing) <= 4
@@ -112,8 +109,18 @@ def _is_pattern(thing):
     )
 
 
+def need_calendar(thing):
+    if not is_calendar(thing):
+        raise BadCalendar("a calendar is a tuple of a pattern, closed spans and opened spans")
+
+
 def _is_spans(thing):
-    return isinstance(thing, tuple) and len(thing) <= 2 and all([_is_span(span) for span in thing]) and is_rising(thing)
+    return (
+        isinstance(thing, tuple)
+        and len(thing) <= MOST_SPANS
+        and all([_is_span(span) for span in thing])
+        and is_rising(thing)
+    )
 
 
 def _is_span(thing):

@@ -86,6 +86,21 @@ def is_paper_deed(size, thing):
     return is_word(thing[0], CHANGES) and is_path(thing[2])
 
 
+def is_source(size, script, path, thing):
+    """Whether any object is a source for the path, where the script may have other deeds than paper deeds, too."""
+    if not is_pair(thing):
+        return False
+    word, number = thing
+    if is_word(word, ("first",)):
+        return is_folder(size, number)
+    return (
+        is_word(word, ("written",))
+        and is_whole(number, 0, len(script) - 1)
+        and script[number][0] == "write"
+        and script[number][2] == path
+    )
+
+
 def first_lists(size):
     """The tuple of the lists of so many folders at first: each has its own first paper alone."""
     return tuple([(("first", folder),) for folder in range(size)])
@@ -111,9 +126,17 @@ def lists_through(size, script, path):
     return along
 
 
+def first_there(sources, contents):
+    """The first of the sources that there is for these first contents, None if there is none."""
+    for source in sources:
+        if source[0] == "written" or source[1] in contents:
+            return source
+    return None
+
+
 def papers_of(lists, contents):
     """The tuple, for each list, of its first source that there is for these first contents, None if there is none."""
-    return tuple([_first_there(sources, contents) for sources in lists])
+    return tuple([first_there(sources, contents) for sources in lists])
 
 
 def contents_of(source):
@@ -165,13 +188,6 @@ def _laid_over(ahead, behind):
     return ahead + tuple([source for source in behind if source not in ahead])
 
 
-def _first_there(sources, contents):
-    for source in sources:
-        if source[0] == "written" or source[1] in contents:
-            return source
-    return None
-
-
 def _start_of(script, source):
     """The folder in which the source stands first, and how many deeds are done then."""
     word, number = source
@@ -196,19 +212,5 @@ def _need_work(size, script, path):
 
 
 def _need_source(size, script, path, thing):
-    if not _is_source(size, script, path, thing):
+    if not is_source(size, script, path, thing):
         raise BadSource("a source is the first paper of a folder, or one written at the path by the script")
-
-
-def _is_source(size, script, path, thing):
-    if not is_pair(thing):
-        return False
-    word, number = thing
-    if is_word(word, ("first",)):
-        return is_folder(size, number)
-    return (
-        is_word(word, ("written",))
-        and is_whole(number, 0, len(script) - 1)
-        and script[number][0] == "write"
-        and script[number][2] == path
-    )

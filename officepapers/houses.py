@@ -83,6 +83,11 @@ def is_who(people, thing):
     return is_word(thing[0], ("g",)) and is_group(thing[1])
 
 
+def all_whos(house):
+    """The list of all persons of the house and all groups, as who."""
+    return [("p", person) for person in range(house[0])] + [("g", group) for group in GROUPS]
+
+
 def start_state(house, mode):
     """As first_state, for a house and a mode that are known to be such."""
     people, parents, shut, entries, members = house

@@ -10,14 +10,14 @@ from officepapers.rights import do_right
 
 def state_at(office, plan, day, moment):
     """The state at the moment."""
-    _need_moment(office, plan, day, moment)
+    need_moment(office, plan, day, moment)
     state, _ = worlds_along(office, plan, order_for(office, plan, day))[moment]
     return state
 
 
 def lists_at(office, plan, day, moment, path):
     """The tuple of the lists of all folders for the path at the moment."""
-    _need_moment(office, plan, day, moment)
+    need_moment(office, plan, day, moment)
     need_path(path)
     _, lists = worlds_along(office, plan, order_for(office, plan, day))[moment]
     return lists[path]
@@ -25,15 +25,14 @@ def lists_at(office, plan, day, moment, path):
 
 def day_at(office, plan, day, moment):
     """The day of the last step done by the moment; None for the moment 0."""
-    _need_moment(office, plan, day, moment)
+    need_moment(office, plan, day, moment)
     return history_for(office, plan, day)[moment - 1][0] if moment > 0 else None
 
 
 def script_at(office, plan, day, moment):
     """The tuple of the script of the paper deeds done by the moment and the tuple of the numbers of their steps."""
-    _need_moment(office, plan, day, moment)
-    numbers = [number for number in order_for(office, plan, day)[:moment] if is_with_papers(plan[number][0])]
-    return tuple([plan[number][0] for number in numbers]), tuple(numbers)
+    need_moment(office, plan, day, moment)
+    return script_of(plan, order_for(office, plan, day)[:moment])
 
 
 def swap_steps(office, plan, day):
@@ -91,11 +90,33 @@ def worlds_along(office, plan, numbers):
     return worlds
 
 
+def script_of(plan, numbers):
+    """The tuple of the script of the paper deeds of the steps with these numbers and the tuple of their numbers."""
+    places = tuple([number for number in numbers if is_with_papers(plan[number][0])])
+    return tuple([plan[number][0] for number in places]), places
+
+
+def looks_along(office, plan, numbers):
+    """The dict of what each look among the steps with these numbers finds, by its number."""
+    worlds = worlds_along(office, plan, numbers)
+    return {
+        number: sources_seen(office, world, plan[number][0])
+        for world, number in zip(worlds, numbers) if plan[number][0][0] == "look"
+    }
+
+
 def sources_seen(office, world, look):
     """The tuple of the sources in the looked folder as the look finds it; None if the person does not see it."""
     _, person, folder, path = look
     state, lists = world
     return lists[path][folder] if sees_in(office[1], state, person, folder) else None
+
+
+def need_moment(office, plan, day, moment):
+    need_plan(office, plan)
+    need_day(day)
+    if not is_whole(moment, 0, len(plan)):
+        raise BadMoment(f"a moment is an integer from 0 to {len(plan)}")
 
 
 def _outcome(office, plan, world, numbers):
@@ -107,10 +128,3 @@ def _outcome(office, plan, world, numbers):
             found[number] = sources_seen(office, world, deed)
         world = world_behind(office, world, deed, number)
     return world, found
-
-
-def _need_moment(office, plan, day, moment):
-    need_plan(office, plan)
-    need_day(day)
-    if not is_whole(moment, 0, len(plan)):
-        raise BadMoment(f"a moment is an integer from 0 to {len(plan)}")

@@ -94,11 +94,7 @@ def next_change(office, plan, day):
 def orders_ever(office, plan):
     """The list, ascending, of the tuples of each order there ever is and the starting day nearest to 0 that has it."""
     need_plan(office, plan)
-    nearest = {}
-    for day in telling_days():
-        order = order_for(office, plan, day)
-        if order not in nearest:
-            nearest[order] = day
+    nearest = nearest_orders(office, plan)
     return sorted([(order, nearest[order]) for order in nearest])
 
 
@@ -157,6 +153,33 @@ def order_for(office, plan, day):
     return tuple([number for _, number in history_for(office, plan, day)])
 
 
+def nearest_orders(office, plan):
+    """The dict of each order there ever is and the starting day nearest to 0 that has it, near days first."""
+    nearest = {}
+    for day in telling_days():
+        order = order_for(office, plan, day)
+        if order not in nearest:
+            nearest[order] = day
+    return nearest
+
+
+def writes_of(plan):
+    """The list, ascending, of the numbers of the steps that write."""
+    return [number for number, (deed, _) in enumerate(plan) if deed[0] == "write"]
+
+
+def cuts_of(plan, writing):
+    """The list of the lists, each ascending, of the tuples of none, one and two numbers of steps but the writing."""
+    numbers = [number for number in range(len(plan)) if number != writing]
+    pairs = [(number, other) for number in numbers for other in numbers if number < other]
+    return [[()], [(number,) for number in numbers], pairs]
+
+
+def is_deed(house, thing):
+    """Whether any object is a deed of an office with the house."""
+    return is_right_deed(house, thing) or is_paper_deed(size_of(house), thing) or is_look(house, thing)
+
+
 def is_look(house, thing):
     """Whether any object is a look of the house."""
     return (
@@ -167,6 +190,12 @@ def is_look(house, thing):
         and is_folder(size_of(house), thing[2])
         and is_path(thing[3])
     )
+
+
+def is_route_of(book, thing):
+    """Whether any object is a route with names of the book alone."""
+    names = [name for name, _ in book]
+    return is_route(thing) and all([letter == "+" or letter in names for letter in thing])
 
 
 def need_office(thing):
@@ -185,17 +214,20 @@ def need_step(plan, thing):
         raise BadStep("a step is told by its number, an integer from 0 on")
 
 
+def need_look(plan, thing):
+    need_step(plan, thing)
+    if plan[thing][0][0] != "look":
+        raise BadStep("the step has to be a look")
+
+
+def need_write(plan, thing):
+    need_step(plan, thing)
+    if plan[thing][0][0] != "write":
+        raise BadStep("the step has to be a writing")
+
+
 def _is_step(office, thing):
-    return is_pair(thing) and _is_deed(office[0], thing[0]) and _is_route_of(office[2], thing[1])
-
-
-def _is_deed(house, thing):
-    return is_right_deed(house, thing) or is_paper_deed(size_of(house), thing) or is_look(house, thing)
-
-
-def _is_route_of(book, thing):
-    names = [name for name, _ in book]
-    return is_route(thing) and all([letter == "+" or letter in names for letter in thing])
+    return is_pair(thing) and is_deed(office[0], thing[0]) and is_route_of(office[2], thing[1])
 
 
 def _need_two_steps(plan, number, other):

@@ -13,6 +13,7 @@ from officepapers.houses import (
     MOVINGS,
     PARENTS,
     SHUT,
+    all_whos,
     groups_of,
     is_acyclic,
     is_group,
@@ -101,7 +102,7 @@ def all_right_deeds(house):
     """The list, ascending, of all right deeds of the house."""
     people = range(house[0])
     folders = range(size_of(house))
-    whos = [("p", person) for person in people] + [("g", group) for group in GROUPS]
+    whos = all_whos(house)
     deeds = [(word, folder, who) for word in ENTRY_WORDS for folder in folders for who in whos]
     deeds.extend([(word, group, who) for word in MEMBER_WORDS for group in GROUPS for who in whos])
     deeds.extend([("move", folder, parent) for folder in folders for parent in folders])

@@ -33,13 +33,13 @@ def is_route(thing):
 def moved(book, route, day):
     """The day to which the route moves the day."""
     _need_start(book, route, day)
-    return move(_calendars_for(book, route), route, day)
+    return move(calendars_for(book, route), route, day)
 
 
 def stops(book, route, day):
     """The list of the day and the days after each letter of the route."""
     _need_start(book, route, day)
-    calendars = _calendars_for(book, route)
+    calendars = calendars_for(book, route)
     days = [day]
     for letter in route:
         days.append(move(calendars, (letter,), days[-1]))
@@ -49,13 +49,13 @@ def stops(book, route, day):
 def latest_start(book, route, day):
     """The latest day that the route moves to the day or an earlier one."""
     _need_start(book, route, day)
-    return move_back(_calendars_for(book, route), route, day)
+    return move_back(calendars_for(book, route), route, day)
 
 
 def start_days(book, route, day):
     """The tuple of the first and the last day that the route moves to just the day; None if there is none."""
     _need_start(book, route, day)
-    calendars = _calendars_for(book, route)
+    calendars = calendars_for(book, route)
     first = move_back(calendars, route, day - 1) + 1
     last = move_back(calendars, route, day)
     return (first, last) if first <= last else None
@@ -65,7 +65,7 @@ def repeated(book, route, day, times):
     """The day after the route has moved it so many times."""
     _need_start(book, route, day)
     need_number(times, MOST_TIMES)
-    calendars = _calendars_for(book, route)
+    calendars = calendars_for(book, route)
     there, _ = _move_often(calendars, route, day, times, day + WIDEST_MOVE * times)
     return there
 
@@ -74,7 +74,7 @@ def times_to(book, route, day, goal):
     """How many times, as few as any, the route moves the day to reach the goal or go beyond; None if it never does."""
     _need_start(book, route, day)
     need_day(goal)
-    calendars = _calendars_for(book, route)
+    calendars = calendars_for(book, route)
     if day >= goal:
         return 0
     # A route that moves a day at all moves it by one day at least.
@@ -138,19 +138,19 @@ def need_route(thing):
         raise BadRoute(f"a route is a tuple of at most {MOST_LETTERS} letters")
 
 
-def _need_start(book, route, day):
-    need_book(book)
-    need_route(route)
-    need_day(day)
-
-
-def _calendars_for(book, route):
+def calendars_for(book, route):
     """The calendars of the book by their names, if it has all names of the route."""
     calendars = dict(book)
     for letter in route:
         if letter != "+" and letter not in calendars:
             raise NoName(letter)
     return calendars
+
+
+def _need_start(book, route, day):
+    need_book(book)
+    need_route(route)
+    need_day(day)
 
 
 def _is_letter(thing):

@@ -2,7 +2,7 @@
 
 import random
 
-from copy_samples import BAD_DEEDS, all_deeds, papers_along
+from copy_samples import BAD_DEEDS, all_contents, all_deeds, papers_along
 from house_samples import (
     BAD_HOUSES,
     BAD_MODES,
@@ -182,3 +182,23 @@ def papers_after(office, plan, numbers, contents):
 
 def sees_after(office, plan, numbers, person, folder):
     return sees_by_hand(office[1], state_by_hand(office, plan, numbers), person, folder)
+
+
+def lists_after(office, plan, numbers, path):
+    """The lists that tell, for all first contents, what stands in the folders after the steps."""
+    size = len(office[0][2])
+    alone = [papers_after(office, plan, numbers, contents) for contents in all_contents(size)]
+    lists = []
+    for folder in range(size):
+        found = {papers[folder, path] for papers in alone if (folder, path) in papers}
+        # A source that stands when fewer first papers are there as well stands further ahead.
+        counts = {source: sum(papers.get((folder, path)) == source for papers in alone) for source in found}
+        lists.append(tuple(sorted(found, key=lambda source: (source[0] == "written", -counts[source]))))
+    return tuple(lists)
+
+
+def found_by(office, plan, numbers, look):
+    """What the look among these steps finds."""
+    ahead = numbers[:numbers.index(look)]
+    _, person, folder, path = plan[look][0]
+    return lists_after(office, plan, ahead, path)[folder] if sees_after(office, plan, ahead, person, folder) else None

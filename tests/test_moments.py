@@ -2,16 +2,16 @@ import itertools
 import random
 import unittest
 
-from copy_samples import all_contents, all_deeds
+from copy_samples import all_deeds
 from house_samples import HOUSE, MODE, all_right_deeds, sees_by_hand
 from plan_samples import (
     LONG_PLAN,
     OFFICE,
     PLAN,
+    found_by,
     history_by_hand,
+    lists_after,
     order_by_hand,
-    papers_after,
-    sees_after,
     some_offices,
     state_by_hand,
 )
@@ -23,26 +23,6 @@ from officepapers.moments import alike_days, day_at, lists_at, script_at, state_
 from officepapers.plans import history, order_at
 
 DAYS = [-FAR, -40, -3, 0, 1, 2, 5, 31, FAR]
-
-
-def lists_after(office, plan, numbers, path):
-    """The lists that tell, for all first contents, what stands in the folders after the steps."""
-    size = len(office[0][2])
-    alone = [papers_after(office, plan, numbers, contents) for contents in all_contents(size)]
-    lists = []
-    for folder in range(size):
-        found = {papers[folder, path] for papers in alone if (folder, path) in papers}
-        # A source that stands when fewer first papers are there as well stands further ahead.
-        counts = {source: sum(papers.get((folder, path)) == source for papers in alone) for source in found}
-        lists.append(tuple(sorted(found, key=lambda source: (source[0] == "written", -counts[source]))))
-    return tuple(lists)
-
-
-def found_by(office, plan, numbers, look):
-    """What the look among these steps finds."""
-    ahead = numbers[:numbers.index(look)]
-    _, person, folder, path = plan[look][0]
-    return lists_after(office, plan, ahead, path)[folder] if sees_after(office, plan, ahead, person, folder) else None
 
 
 def outcome_by_hand(office, plan, numbers, pair):
