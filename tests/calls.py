@@ -8,16 +8,21 @@ import house_samples
 import plan_samples
 import report_samples
 import samples
+import sight_samples
 from code_samples import RIGHT, SCHEME
 from copy_samples import SCRIPT, SIZE, without_writes
 from house_samples import HOUSE, MODE, STATE
 from plan_samples import OFFICE, PLAN
 from report_samples import REPORTS
+from sight_samples import KEEP, PAPER_PLAN, PAPER_SOURCE
 
 from officepapers import (
     calendars,
     copies,
+    ever,
     houses,
+    keeping,
+    labels,
     moments,
     plans,
     reasons,
@@ -26,8 +31,10 @@ from officepapers import (
     routes,
     schemes,
     scripts,
+    sight,
     slips,
     spelling,
+    texts,
 )
 from officepapers.errors import (
     BadBook,
@@ -39,6 +46,7 @@ from officepapers.errors import (
     BadFolder,
     BadGap,
     BadHouse,
+    BadKeep,
     BadKind,
     BadMode,
     BadMoment,
@@ -58,6 +66,7 @@ from officepapers.errors import (
     BadSource,
     BadState,
     BadStep,
+    BadText,
 )
 
 # The bounds are the least and the greatest integer that is right; None where there are no such bounds.
@@ -147,6 +156,23 @@ STRETCH = [of_day("first", 5)._replace(bounds=None), of_day("last", 25)._replace
 AN_ORDER = Argument("order", (1, 4, 0, 2, 3, 6, 5), plan_samples.BAD_ORDERS, BadOrder, None)
 TWO_STEPS = [of_step("number", 5)._replace(bounds=(1, 6)), of_step("other", 0)._replace(bounds=(0, 4))]
 
+SEEN = [PLANNED[0], PLANNED[1]._replace(right=PAPER_PLAN)]
+WATCHED = [A_PERSON, A_PATH._replace(right=3)]
+A_SIGHT = Argument("source", PAPER_SOURCE, sight_samples.BAD_PLAN_SOURCES, BadSource, None)
+OF_FOUR = CONTENTS._replace(wrong=sight_samples.BAD_FOUR_CONTENTS)
+A_LOOK = Argument("number", 3, sight_samples.BAD_LOOK_NUMBERS, BadStep, None)
+A_WRITE = Argument("number", 2, sight_samples.BAD_WRITE_NUMBERS, BadStep, None)
+A_KEEP = Argument("keep", KEEP, sight_samples.BAD_KEEPS, BadKeep, None)
+KEPT = [*SEEN, A_KEEP, A_WRITE._replace(right=4), A_DAY]
+# A scheme of which as many codes as PAPER_PLAN writes papers are safe together.
+SAFE = A_SCHEME._replace(right=(4, 5, (1, 2, 3), 0))
+
+
+def of_text(right):
+    wrong = [thing for thing in samples.OTHERS if not isinstance(thing, str)] + [5, (), ("o",), b"o", "", " ", "xx x"]
+    return Argument("text", right, wrong, BadText, None)
+
+
 CALLS = [
     (calendars.is_open, [A_CALENDAR, A_DAY]),
     (calendars.next_open, [A_CALENDAR, A_DAY]),
@@ -226,6 +252,39 @@ CALLS = [
     (moments.script_at, [*PLANNED, A_DAY, A_MOMENT]),
     (moments.swap_steps, [*PLANNED, A_DAY]),
     (moments.alike_days, [*PLANNED, A_DAY, of_day("other", 8)]),
+    (sight.sights, [*SEEN, A_DAY, *WATCHED]),
+    (sight.sure_sights, [*SEEN, A_DAY, *WATCHED]),
+    (sight.alike_contents, [*SEEN, A_DAY, *WATCHED, OF_FOUR]),
+    (sight.can_see, [*SEEN, A_DAY, *WATCHED, A_SIGHT]),
+    (sight.look_sources, [*SEEN, A_DAY, A_LOOK]),
+    (sight.look_shows, [*SEEN, A_DAY, A_LOOK, OF_FOUR]),
+    (sight.sight_paper, [*SEEN, A_DAY, *WATCHED, A_SIGHT]),
+    (sight.sight_holds, [*SEEN, A_DAY, *WATCHED, A_SIGHT, of_any("thing", (4, 0, (), (), ("sees", 0, ("g", 1), (0, 1))))]),
+    (ever.ever_sees, [*SEEN, *WATCHED, A_SIGHT]),
+    (ever.ever_look, [*SEEN, A_LOOK]),
+    (ever.least_cuts, [*SEEN, A_DAY, *WATCHED, A_SIGHT._replace(right=("first", 2))]),
+    (ever.idle_steps, [*SEEN, A_DAY]),
+    (ever.ever_idle, SEEN),
+    (keeping.due_day, KEPT),
+    (keeping.lost_papers, [*SEEN, A_KEEP, A_DAY]),
+    (keeping.keep_word, [*SEEN, A_KEEP]),
+    (keeping.ever_kept, [*SEEN, A_KEEP]),
+    (keeping.latest_for, KEPT),
+    (keeping.whereabouts, [*SEEN, A_DAY, A_WRITE]),
+    (keeping.spared_by, KEPT),
+    (keeping.saved_by, KEPT),
+    (labels.labels, [SAFE, *SEEN]),
+    (labels.found_typed, [SAFE, *SEEN, A_DAY, A_MOMENT, OF_FOUR, A_CODE._replace(right=(0, 1, 0))]),
+    (texts.show_calendar, [of_any("calendar", CALENDAR)]),
+    (texts.show_route, [of_any("route", ("a", "+"))]),
+    (texts.show_code, [of_any("code", (1, 2, 3))]),
+    (texts.show_deed, [of_any("deed", ("allow", 0, ("g", 2)))]),
+    (texts.show_plan, [of_any("plan", PLAN)]),
+    (texts.read_calendar, [of_text("o closed -3 4 opened 2 9")]),
+    (texts.read_route, [of_text("a + b")]),
+    (texts.read_code, [A_SCHEME, of_text("123")]),
+    (texts.read_deed, [PLANNED[0], of_text("move 2 3")]),
+    (texts.read_plan, [PLANNED[0], of_text("move 2 3 : a + ; look 2 1 3 : .")]),
 ]
 
 # Each function that accepts any object, with the arguments ahead of it, if there are any.
@@ -244,6 +303,7 @@ JUDGES = [
     (reasons.reason_holds, [HOUSE, MODE, STATE, 1, 2]),
     (plans.is_office, []),
     (plans.is_plan, [OFFICE]),
+    (sight.sight_holds, [OFFICE, PAPER_PLAN, 5, 1, 3, PAPER_SOURCE]),
 ]
 
 

@@ -1,5 +1,6 @@
 """What the tests of schemes and slips share: right and wrong values, and the document's rules done code by code."""
 
+import functools
 import itertools
 import random
 
@@ -182,6 +183,26 @@ def is_slip(code, other, kind):
 
 def is_near(code, other):
     return code == other or is_slip(code, other, "digit") or is_slip(code, other, "swap")
+
+
+def read_as(scheme, code):
+    """All codes that are read as the code: itself, those with one digit changed, and with two neighbours exchanged."""
+    found = {code}
+    for at in range(len(code)):
+        found |= {(*code[:at], digit, *code[at + 1:]) for digit in range(scheme[0])}
+        found |= {(*code[:at], *code[at:at + 2][::-1], *code[at + 2:])}
+    return found
+
+
+@functools.cache
+def register_by_hand(scheme, count):
+    """The codes of which no code is read as two, each the least one, taken one after the other; None if too few."""
+    taken, read = [], set()
+    for code in right_by_hand(scheme):
+        if len(taken) < count and not read & read_as(scheme, code):
+            taken.append(code)
+            read |= read_as(scheme, code)
+    return tuple(taken) if len(taken) == count else None
 
 
 def some_schemes(count, seed, most_codes=300):

@@ -10,8 +10,25 @@ from code_samples import RIGHT, SCHEME
 from copy_samples import SCRIPT
 from house_samples import HOUSE, MODE, STATE
 from plan_samples import OFFICE, PLAN
+from sight_samples import PAPER_PLAN
 
-from officepapers import copies, houses, moments, plans, reasons, reports, rights, routes, schemes, scripts, slips
+from officepapers import (
+    copies,
+    ever,
+    houses,
+    keeping,
+    labels,
+    moments,
+    plans,
+    reasons,
+    reports,
+    rights,
+    routes,
+    schemes,
+    scripts,
+    sight,
+    slips,
+)
 from officepapers.errors import (
     BadCode,
     BadContents,
@@ -19,6 +36,7 @@ from officepapers.errors import (
     BadDeed,
     BadFolder,
     BadGap,
+    BadKeep,
     BadMoment,
     BadNumber,
     BadOrder,
@@ -35,6 +53,7 @@ from officepapers.errors import (
     BadStretch,
     NoName,
     NotRight,
+    TooMany,
 )
 
 WITH_BOOK = [(function, told) for function, told in CALLS if told[0].name == "book"]
@@ -175,6 +194,41 @@ class Calls(unittest.TestCase):
         self.assert_error(BadStep, plans.ahead_word, [office, plan, 1, 2])
         self.assert_error(BadMoment, moments.state_at, [office, plan, 0, 3])
         self.assert_error(BadOrder, plans.next_with, [office, plan, (1, 0, 2), 0])
+
+    def test_what_is_seen_and_kept_by_the_office_and_the_plan_alone(self):
+        office = ((1, (0,), (False, False), ((0, ("p", 0), "allow"),), ()), MODE, (("a", ("o", (), ())),))
+        plan = ((("over", 0, 1), ("+",)), (("write", 0, 1), ("a",)), (("look", 0, 1, 1), ()))
+        for call in (sight.sights, sight.sure_sights):
+            self.assertTrue(call(office, plan, 0, 0, 1))
+            self.assert_error(BadPerson, call, [office, plan, 0, 1, 1])
+        for contents in [(2,), (0, 2)]:
+            self.assert_error(BadContents, sight.alike_contents, [office, plan, 0, 0, 1, contents])
+            self.assert_error(BadContents, sight.look_shows, [office, plan, 0, 2, contents])
+            self.assert_error(BadContents, labels.found_typed, [SCHEME, office, plan, 0, 0, contents, (0, 0, 0)])
+        for call in (sight.can_see, sight.sight_paper, ever.least_cuts):
+            call(office, plan, 0, 0, 1, ("written", 1))
+            for source in [("first", 2), ("written", 0), ("written", 2), ("written", 3)]:
+                self.assert_error(BadSource, call, [office, plan, 0, 0, 1, source])
+            self.assert_error(BadSource, call, [office, plan, 0, 0, 0, ("written", 1)])
+        self.assert_error(BadSource, ever.ever_sees, [office, plan, 0, 0, ("written", 1)])
+        for call in (lambda *told: sight.look_sources(*told[:2], 0, *told[2:]), ever.ever_look):
+            self.assertTrue(call(office, plan, 2))
+            self.assert_error(BadStep, call, [office, plan, 1])
+            self.assert_error(BadStep, call, [office, plan, 3])
+        for keep in [((0, ()),), ((1, ("b",)),), ((2, ()),), ((3, ()),)]:
+            self.assert_error(BadKeep, keeping.keep_word, [office, plan, keep])
+        self.assertEqual(keeping.keep_word(office, plan, ((1, ("a",)),)), ("always", None))
+        self.assert_error(BadStep, keeping.whereabouts, [office, plan, 0, 0])
+        self.assert_error(BadMoment, labels.found_typed, [SCHEME, office, plan, 0, 4, (), (0, 0, 0)])
+        self.assert_error(BadCode, labels.found_typed, [SCHEME, office, plan, 0, 3, (), (0, 0)])
+
+    def test_too_many_comes_after_the_other_errors(self):
+        none = (3, 6, (2, 4, 2), 1)
+        self.assert_error(TooMany, labels.labels, [none, OFFICE, PAPER_PLAN])
+        self.assert_error(TooMany, labels.found_typed, [none, OFFICE, PAPER_PLAN, 0, 0, (), (0, 0, 0)])
+        self.assert_error(BadPlan, labels.labels, [none, OFFICE, PAPER_PLAN * 2])
+        self.assert_error(BadCode, labels.found_typed, [none, OFFICE, PAPER_PLAN, 0, 0, (), (0, 0, 3)])
+        self.assert_error(BadContents, labels.found_typed, [none, OFFICE, PAPER_PLAN, 0, 0, (4,), (0, 0, 3)])
 
     def test_bad_stretch_comes_after_the_other_errors(self):
         order = tuple(range(len(PLAN)))
