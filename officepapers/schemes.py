@@ -146,9 +146,10 @@ def ways_along(scheme, gap):
     return along[::-1]
 
 
-def nth_along(scheme, gap, along, number):
-    """As nth_in, where along is what ways_along has told."""
+def nth_in(scheme, gap, number):
+    """As nth_fill, for a scheme, a gap and a number that are known to be such."""
     _, modulus, weights, left = scheme
+    along = ways_along(scheme, gap)
     code = []
     for at, weight in enumerate(weights):
         for digit in _digits_at(scheme, gap[at]):
@@ -159,11 +160,6 @@ def nth_along(scheme, gap, along, number):
         code.append(digit)
         left = behind
     return tuple(code)
-
-
-def nth_in(scheme, gap, number):
-    """As nth_fill, for a scheme, a gap and a number that are known to be such."""
-    return nth_along(scheme, gap, ways_along(scheme, gap), number)
 
 
 def _numbered(scheme, gap, number):

@@ -8,7 +8,6 @@ from officepapers.schemes import (
     leaves_rest,
     need_code,
     need_scheme,
-    nth_along,
     nth_in,
     open_gap,
     put_in,
@@ -19,6 +18,8 @@ KINDS = ("digit", "swap")
 MOST_CODES = 8
 # More changes than a code has places: so a way that there is not is never one of the shortest.
 TOO_MANY_CHANGES = 7
+# Two codes that are unlike at so many places, or at fewer, are in a near pair, whatever their digits are.
+NEAR_PLACES = 2
 
 
 def fixes(scheme, code):
@@ -87,29 +88,82 @@ def safe_register(scheme, count):
     """The register of so many codes, each the least one that is in no near pair with those ahead; None if too few."""
     need_scheme(scheme)
     need_number(count, MOST_CODES)
-    gap = open_gap(scheme)
-    along = ways_along(scheme, gap)
-    taken = []
-    # A code is in a near pair with one taken exactly if two slips or fewer lead from the one to the other.
-    near = set()
-    for number in range(along[0][scheme[3]]):
-        if len(taken) == count:
-            break
-        code = nth_along(scheme, gap, along, number)
-        if code not in near:
-            taken.append(code)
-            for read in [code, *_slipped(scheme, code)]:
-                for other in _slipped(scheme, read):
-                    near.add(other)
+    if count == 0:
+        return ()
+    along = ways_along(scheme, open_gap(scheme))
+    if along[0][scheme[3]] < count:
+        return None
+    taken = _take_apart(scheme, along, count)
     return tuple(taken) if len(taken) == count else None
+
+
+def _take_apart(scheme, along, count):
+    """The list of the codes of a safe register, with fewer than count if there are no more; along is of ways_along."""
+    ends = _ends_by_rest(scheme)
+    taken = []
+    # The codes taken and those that are one slip from one of them.
+    read = {}
+    # Beginnings of codes, the least one last, each with what the digits behind it have to leave.
+    heads = [((), scheme[3])]
+    while heads and len(taken) < count:
+        head, left = heads.pop()
+        if len(head) < len(scheme[2]) - NEAR_PLACES:
+            heads.extend(_longer_heads(scheme, along, head, left))
+            continue
+        # Of the codes with this head one is taken at most: any two of them are in a near pair.
+        code = _least_apart(head, ends[left], taken, read)
+        if code is not None:
+            taken.append(code)
+            for other in [code, *_slipped(scheme, code)]:
+                read[other] = True
+    return taken
+
+
+def _longer_heads(scheme, along, head, left):
+    """The list, descending, of the beginnings of right codes that have one digit more, with what is left then."""
+    base, modulus, weights, _ = scheme
+    at = len(head)
+    longer = [((*head, digit), (left - weights[at] * digit) % modulus) for digit in range(base - 1, -1, -1)]
+    return [(other, behind) for other, behind in longer if along[at + 1][behind] > 0]
+
+
+def _ends_by_rest(scheme):
+    """The list, for each rest, of the pairs of digits, ascending, that leave it at the last two places."""
+    base, modulus, weights, _ = scheme
+    ends = [[] for _ in range(modulus)]
+    for digit in range(base):
+        for last in range(base):
+            ends[(weights[-2] * digit + weights[-1] * last) % modulus].append((digit, last))
+    return ends
+
+
+def _least_apart(head, ends, taken, read):
+    """The least code of this head and one of the ends that is in no near pair with one taken; None if there is none.
+
+    A code that is in a near pair with one taken, and unlike it at more than two places, comes to it by an exchange and
+    one slip more, and the exchange may come first: so it is enough to look whether an exchange makes of it one of read.
+    """
+    unlike = [(sum([int(one != two) for one, two in zip(head, code)]), code[-2], code[-1]) for code in taken]
+    close = [row for row in unlike if row[0] <= NEAR_PLACES]
+    for digit, last in ends:
+        if all([many + int(digit != other) + int(last != end) > NEAR_PLACES for many, other, end in close]):
+            code = (*head, digit, last)
+            if not any([exchanged in read for exchanged in _exchanged(code)]):
+                return code
+    return None
 
 
 def _slipped(scheme, code):
     """The list, each once, of the codes that one slip of one of the kinds makes of the code."""
     digits = range(scheme[0])
     changed = [put_in(code, at, (digit,)) for at in range(len(code)) for digit in digits if digit != code[at]]
+    return changed + _exchanged(code)
+
+
+def _exchanged(code):
+    """The list, each once, of the codes that exchanging two unlike neighbours makes of the code."""
     pairs = [(at, code[at], code[at + 1]) for at in range(len(code) - 1)]
-    return changed + [put_in(code, at, (other, digit)) for at, digit, other in pairs if digit != other]
+    return [put_in(code, at, (other, digit)) for at, digit, other in pairs if digit != other]
 
 
 def _blind_slips(scheme, kind):

@@ -15,7 +15,7 @@ from code_samples import (
     sums_by_hand,
 )
 
-from officepapers.errors import BadKind, BadNumber, BadRegister
+from officepapers.errors import BadKind, BadRegister
 from officepapers.slips import (
     closest_right,
     count_unnoticed,
@@ -194,60 +194,6 @@ class Registers(unittest.TestCase):
             kept = list(first)
             first.append(None)
             self.assertEqual(made(), kept)
-
-
-class SafeRegisters(unittest.TestCase):
-    def test_against_taking_code_by_code(self):
-        for scheme in some_schemes(60, 59):
-            for count in range(9):
-                self.assertEqual(safe_register(scheme, count), taken_by_hand(scheme, count), (scheme, count))
-
-    def test_none_where_there_are_fewer(self):
-        self.assertIsNone(safe_register((2, 2, (1, 1), 0), 2))
-        self.assertEqual(safe_register((2, 2, (1, 1), 0), 1), ((0, 0),))
-        for scheme in [(3, 6, (2, 4, 2), 1), (10, 2, (0,) * 6, 1)]:
-            self.assertEqual(safe_register(scheme, 0), ())
-            for count in range(1, 9):
-                self.assertIsNone(safe_register(scheme, count))
-
-    def test_a_million_codes(self):
-        for scheme in BIG_SCHEMES:
-            register = safe_register(scheme, 8)
-            if register is None:
-                self.assertEqual(sums_by_hand(scheme, (None,) * 6), 0)
-                continue
-            self.assertIs(type(register), tuple)
-            self.assertEqual(len(register), 8)
-            self.assertEqual(near_pairs(scheme, register), [])
-            for many in range(8):
-                self.assertEqual(safe_register(scheme, many), register[:many])
-        self.assertEqual(safe_register(PLAIN, 2), ((0,) * 6, (0, 0, 0, 1, 1, 1)))
-
-    def test_the_scheme_of_the_desk(self):
-        register = safe_register((10, 11, (4, 3, 2, 1), 0), 8)
-        self.assertEqual(register, taken_by_hand((10, 11, (4, 3, 2, 1), 0), 8))
-
-    def test_bounds_of_the_count(self):
-        for count in (-1, 9, True, False, None, "1"):
-            with self.assertRaises(BadNumber):
-                safe_register(SCHEME, count)
-
-
-def taken_by_hand(scheme, count):
-    taken = []
-    for code in right_by_hand(scheme):
-        if len(taken) < count and not any(near_by_hand(scheme, other, code) for other in taken):
-            taken.append(code)
-    return tuple(taken) if len(taken) == count else None
-
-
-def near_by_hand(scheme, code, other):
-    """Whether some code is each of the two or one slip from it."""
-    unlike = [at for at in range(len(code)) if code[at] != other[at]]
-    if len(unlike) > 4:
-        return False
-    between = {code} | set(slips_by_hand(scheme, code))
-    return any(is_near(other, read) for read in between)
 
 
 def slips_by_hand(scheme, code):
